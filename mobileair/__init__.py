@@ -1,0 +1,1 @@
+"""Mobileair: a mobile telephone network on one clock."""
