@@ -1,0 +1,64 @@
+"""The names of the interface: their files, their arguments and their examples."""
+
+import doctest
+import importlib
+import inspect
+import os
+import unittest
+
+ROOT = os.path.dirname(os.path.dirname(os.path.abspath(__file__)))
+
+FUNCTIONS = {
+    "bits": {
+        "number_bits": "number count", "bits_number": "bits", "octet_bits": "octets", "bits_octets": "bits",
+        "flipped": "bits places", "distance": "first second",
+    },
+    "polynomials": {
+        "remainder": "bits divisor", "parity": "content divisor", "is_right": "content found divisor",
+    },
+    "trellis": {"convolve": "bits", "nearest": "coded"},
+    "bursts": {"code_block": "octets", "read_block": "bursts"},
+    "shorts": {
+        "code_sync": "colour reduced", "read_sync": "bits", "code_access": "colour content",
+        "read_access": "bits colour",
+    },
+    "speech": {"code_speech": "bits", "read_speech": "halves"},
+    "calendar": {
+        "counters": "frame", "frame_of": "t1 t2 t3", "reduced": "frame", "frame_of_reduced": "number",
+        "control_slot": "frame", "common_block": "frame", "traffic_slot": "frame",
+        "frames_between": "first second",
+    },
+    "groups": {
+        "group_of": "digits blocks turns", "is_page_frame": "frame group blocks turns",
+        "page_frame": "frame group blocks turns",
+    },
+}
+
+
+class InterfaceTest(unittest.TestCase):
+    def test_functions_have_their_arguments_and_stand_in_their_files(self):
+        for name, functions in FUNCTIONS.items():
+            module = importlib.import_module("mobileair." + name)
+            for word, arguments in functions.items():
+                function = getattr(module, word)
+                self.assertTrue(inspect.isfunction(function), word)
+                self.assertEqual(function.__module__, module.__name__, word)
+                self.assertEqual(list(inspect.signature(function).parameters), arguments.split(), word)
+
+    def test_errors_stand_in_their_file(self):
+        module = importlib.import_module("mobileair.errors")
+        for word in ("MobileError", "BadBits", "BadNumber", "BadText", "NoSuch", "NotNow", "OutOfRange"):
+            self.assertEqual(getattr(module, word).__module__, "mobileair.errors")
+        for word, arguments in (("NoSuch", ["what", "number"]), ("NotNow", ["what"]), ("OutOfRange", ["what"])):
+            kind = getattr(module, word)
+            self.assertIn("__init__", vars(kind))
+            self.assertEqual(list(inspect.signature(kind).parameters), arguments)
+
+    def test_the_examples_of_the_readme(self):
+        result = doctest.testfile(os.path.join(ROOT, "README.md"), module_relative=False)
+        self.assertGreater(result.attempted, 0)
+        self.assertEqual(result.failed, 0)
+
+
+if __name__ == "__main__":
+    unittest.main()
