@@ -3,7 +3,7 @@
 import random
 import unittest
 
-from mobileair.errors import MobileError, OutOfRange
+from mobileair.errors import MobileError, NoSuch, OutOfRange
 
 
 class ProgramTest(unittest.TestCase):
@@ -23,10 +23,36 @@ class ProgramTest(unittest.TestCase):
         self.assertIs(type(caught.exception), kind)
         self.assertEqual(caught.exception.args, ())
 
+    def assert_no_such(self, what, number, function, *arguments):
+        with self.assertRaises(NoSuch) as caught:
+            function(*arguments)
+        self.assertIs(type(caught.exception), NoSuch)
+        self.assertEqual((caught.exception.what, caught.exception.number), (what, number))
+
+    def assert_octets(self, octets):
+        self.assertIs(type(octets), tuple)
+        self.assertTrue(all(type(octet) is int and 0 <= octet <= 255 for octet in octets))
+
     def assert_bits(self, row, count):
         self.assertIs(type(row), list)
         self.assertEqual(len(row), count)
         self.assertTrue(all(type(bit) is int and bit in (0, 1) for bit in row))
+
+
+def changed_rows(octets):
+    """All rows that differ from the octets at one place, have one less or one more, or lack an end."""
+    rows = []
+    for place in range(len(octets)):
+        rows.extend(octets[:place] + (octet,) + octets[place + 1:] for octet in range(256) if octet != octets[place])
+        rows.append(octets[:place] + octets[place + 1:])
+        rows.append(octets[:place])
+    for place in range(len(octets) + 1):
+        rows.extend(octets[:place] + (octet,) + octets[place:] for octet in (0, 1, 15, 16, 33, 129, 240, 241, 255))
+    return rows
+
+
+def random_octets(chance, count):
+    return tuple(chance.randrange(256) for _ in range(count))
 
 
 def random_bits(chance, count):

@@ -32,6 +32,20 @@ FUNCTIONS = {
         "group_of": "digits blocks turns", "is_page_frame": "frame group blocks turns",
         "page_frame": "frame group blocks turns",
     },
+    "identities": {
+        "subscriber_octets": "digits", "number_octets": "digits", "read_subscriber": "octets",
+        "read_number": "octets", "area_octets": "country net place", "read_area": "octets",
+        "check_digit": "digits", "has_right_check": "digits",
+    },
+    "alphabet": {"septets": "text", "text_of": "row"},
+    "packing": {"pack": "row start", "unpack": "octets start count"},
+    "parts": {"cut": "text mark", "read_part": "octets"},
+    "blocks": {"pack_frame": "frame", "unpack_frame": "block"},
+}
+
+# How each class is called, and its methods with their arguments behind self; a property has None.
+CLASSES = {
+    "collector": ("Collector", "", {"take": "octets", "held": None}),
 }
 
 
@@ -44,6 +58,19 @@ class InterfaceTest(unittest.TestCase):
                 self.assertTrue(inspect.isfunction(function), word)
                 self.assertEqual(function.__module__, module.__name__, word)
                 self.assertEqual(list(inspect.signature(function).parameters), arguments.split(), word)
+
+    def test_classes_have_their_methods_and_stand_in_their_files(self):
+        for name, (word, called, methods) in CLASSES.items():
+            kind = getattr(importlib.import_module("mobileair." + name), word)
+            self.assertTrue(inspect.isclass(kind), word)
+            self.assertEqual(kind.__module__, "mobileair." + name)
+            self.assertEqual(list(inspect.signature(kind).parameters), called.split(), word)
+            for method, arguments in methods.items():
+                found = vars(kind)[method]
+                if arguments is None:
+                    self.assertIsInstance(found, property, (word, method))
+                else:
+                    self.assertEqual(list(inspect.signature(found).parameters)[1:], arguments.split(), (word, method))
 
     def test_errors_stand_in_their_file(self):
         module = importlib.import_module("mobileair.errors")
