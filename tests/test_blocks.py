@@ -165,7 +165,8 @@ class BlocksTest(ProgramTest):
 
     def test_what_is_no_block(self):
         block = pack_frame(("setup", (1, 2)))
-        for row in ((), (3,), (3, 63), block[:22], block + (43,), (3, 63, 5, 256) + (43,) * 19):
+        for row in ((), (3,), (3, 63), block[:22], block + (43,), (3, 63, 5, 256) + (43,) * 19,
+                    (3, 63, 5, -1) + (43,) * 19):
             self.assertIsNone(unpack_frame(row))
 
 

@@ -251,6 +251,10 @@ class AreaTest(WrittenFormTest):
     def test_any_octets(self):
         self.assert_reads_all(self.some_rows(), is_area, area_octets, read_area)
 
+    def test_more_than_an_octet_is_no_place(self):
+        for octets in ((0, 241, 16, 0, 256), (0, 241, 16, 1, -1), (0, 241, 16, 256, 0), (256, 241, 16, 0, 1)):
+            self.assert_bare(BadNumber, read_area, octets)
+
     def test_all_halves(self):
         rows = [(first, second, 16, 1, 2) for first in range(256) for second in range(256)]
         rows += [(0, 241, octet, 1, 2) for octet in range(256)] + [(0, 1, octet, 1, 2) for octet in range(256)]

@@ -41,11 +41,23 @@ FUNCTIONS = {
     "packing": {"pack": "row start", "unpack": "octets start count"},
     "parts": {"cut": "text mark", "read_part": "octets"},
     "blocks": {"pack_frame": "frame", "unpack_frame": "block"},
+    "camping": {"next_camp": "signals phone camp"},
 }
 
 # How each class is called, and its methods with their arguments behind self; a property has None.
 CLASSES = {
     "collector": ("Collector", "", {"take": "octets", "held": None}),
+    "ends": ("End", "side", {
+        "state": None, "idle": None, "begin": "octets", "give": "octets", "send": "", "take": "frame", "messages": "",
+    }),
+    "line": ("Line", "", {"end": "side", "tick": "lost"}),
+    "pool": ("Pool", "sizes", {
+        "free": "cell tick", "hold": "cell channel owner tick", "let_go": "cell channel tick", "owner": "cell channel",
+        "status": "cell channel tick", "held_by": "owner",
+    }),
+    "signals": ("Signals", "phones cells", {
+        "level": "phone cell", "set_level": "phone cell level", "hears": "phone cell", "best": "phone without",
+    }),
 }
 
 
@@ -71,6 +83,10 @@ class InterfaceTest(unittest.TestCase):
                     self.assertIsInstance(found, property, (word, method))
                 else:
                     self.assertEqual(list(inspect.signature(found).parameters)[1:], arguments.split(), (word, method))
+
+    def test_the_cell_that_is_left_out_is_passed_by_keyword(self):
+        without = inspect.signature(importlib.import_module("mobileair.signals").Signals.best).parameters["without"]
+        self.assertEqual((without.kind, without.default), (inspect.Parameter.KEYWORD_ONLY, None))
 
     def test_errors_stand_in_their_file(self):
         module = importlib.import_module("mobileair.errors")
