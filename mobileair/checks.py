@@ -1,6 +1,13 @@
-"""The checks of ranges and of numbers that several modules share."""
+"""The checks of ranges, of numbers and of digits that several modules share."""
 
 from mobileair.errors import NoSuch, OutOfRange
+
+DIGITS = "0123456789"
+
+
+def are_digits(text, least, most):
+    """Return True if the string consists of least to most digits, otherwise False."""
+    return least <= len(text) <= most and all([sign in DIGITS for sign in text])
 
 
 def check_range(number, least, most, what):

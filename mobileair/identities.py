@@ -4,11 +4,11 @@ Octets are written here as signs first, one for each half of an octet, the lower
 half of each octet in front of its higher half.
 """
 
+from mobileair.checks import are_digits
 from mobileair.errors import BadNumber
 
 # The signs of the halves 0 to 15; only the first ten of them are digits.
 HALVES = "0123456789ABCDEF"
-DIGITS = "0123456789"
 # The half that is written where a digit is missing.
 MISSING = "F"
 NUMBER_START = 129
@@ -17,6 +17,11 @@ NUMBER_START = 129
 def subscriber_octets(digits):
     """Return the tuple of the octets of 6 to 15 subscriber digits."""
     _check_digits(digits, 6, 15)
+    return any_subscriber_octets(digits)
+
+
+def any_subscriber_octets(digits):
+    """Return the tuple of the octets of subscriber digits, however many they are."""
     odd = len(digits) % 2 == 1
     return _octets("9" + digits if odd else "1" + digits + MISSING)
 
@@ -33,6 +38,11 @@ def read_subscriber(octets):
 def number_octets(digits):
     """Return the tuple of the octets of the 1 to 18 digits of a number."""
     _check_digits(digits, 1, 18)
+    return any_number_octets(digits)
+
+
+def any_number_octets(digits):
+    """Return the tuple of the octets of the digits of a number, however many they are."""
     odd = len(digits) % 2 == 1
     return (NUMBER_START,) + _octets(digits + MISSING if odd else digits)
 
@@ -91,7 +101,7 @@ def _check_sum(digits):
 
 def _check_digits(digits, least, most):
     """Raise BadNumber unless the string consists of least to most digits."""
-    if not least <= len(digits) <= most or any([sign not in DIGITS for sign in digits]):
+    if not are_digits(digits, least, most):
         raise BadNumber()
 
 

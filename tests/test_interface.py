@@ -42,6 +42,9 @@ FUNCTIONS = {
     "parts": {"cut": "text mark", "read_part": "octets"},
     "blocks": {"pack_frame": "frame", "unpack_frame": "block"},
     "camping": {"next_camp": "signals phone camp"},
+    "access": {"may_ask": "number tries tick", "heard": "asks"},
+    "messages": {"write_message": "message"},
+    "reading": {"read_message": "octets"},
 }
 
 # How each class is called, and its methods with their arguments behind self; a property has None.
@@ -57,6 +60,14 @@ CLASSES = {
     }),
     "signals": ("Signals", "phones cells", {
         "level": "phone cell", "set_level": "phone cell level", "hears": "phone cell", "best": "phone without",
+    }),
+    "home": ("Home", "", {
+        "add": "digits number", "with_digits": "digits", "with_number": "number", "digits": "person",
+        "number": "person", "area": "person", "set_area": "person area", "forward": "person kind",
+        "set_forward": "person kind number",
+    }),
+    "pages": ("Pages", "", {
+        "ask": "person reason", "take": "person", "reason": "person", "sent": "person", "step": "tick areas",
     }),
 }
 
