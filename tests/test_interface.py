@@ -45,6 +45,7 @@ FUNCTIONS = {
     "access": {"may_ask": "number tries tick", "heard": "asks"},
     "messages": {"write_message": "message"},
     "reading": {"read_message": "octets"},
+    "goals": {"find_goal": "home number caller busy hops"},
 }
 
 # How each class is called, and its methods with their arguments behind self; a property has None.
@@ -68,6 +69,19 @@ CLASSES = {
     }),
     "pages": ("Pages", "", {
         "ask": "person reason", "take": "person", "reason": "person", "sent": "person", "step": "tick areas",
+    }),
+    "phonecall": ("PhoneCall", "", {
+        "state": None, "cause": None, "said": None, "heard": None, "dial": "number", "take": "message", "answer": "",
+        "say": "octets", "hang": "reached", "end": "cause",
+    }),
+    "book": ("Book", "", {"begin": "caller called tick", "end": "line tick cause", "lines": "", "units": "person"}),
+    "switch": ("Switch", "home", {
+        "start": "person number linked tick", "answered": "person tick", "alerting": "person", "connect": "person",
+        "connected": "person tick", "word": "person octets", "disconnect": "person cause tick", "lost": "person tick",
+        "failed": "person linked tick", "step": "linked tick", "calls": "", "call_of": "person", "is_leg": "person",
+    }),
+    "air": ("Air", "signals", {
+        "lose": "phone way blocks", "harm": "phone way places", "carry": "phone way cell block",
     }),
 }
 
