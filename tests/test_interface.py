@@ -83,6 +83,15 @@ CLASSES = {
     "air": ("Air", "signals", {
         "lose": "phone way blocks", "harm": "phone way places", "carry": "phone way cell block",
     }),
+    "network": ("Network", "sizes areas", {
+        "add_phone": "digits number", "power": "phone on", "set_level": "phone cell level", "lose": "phone way blocks",
+        "harm": "phone way places", "dial": "phone number", "answer": "phone", "hang": "phone", "say": "phone octets",
+        "text": "phone number text", "set_forward": "person kind number", "tick": "count", "is_on": "phone",
+        "camp": "phone", "channel": "phone", "known_area": "phone", "wants": "phone", "call_state": "phone",
+        "call_cause": "phone", "words_said": "phone", "words_heard": "phone", "outbox": "phone", "texts": "phone",
+        "links": "", "channel_state": "cell channel", "area": "person", "page": "person", "stored": "person",
+        "calls": "", "lines": "", "units": "person", "ticks": None,
+    }),
 }
 
 
@@ -112,6 +121,13 @@ class InterfaceTest(unittest.TestCase):
     def test_the_cell_that_is_left_out_is_passed_by_keyword(self):
         without = inspect.signature(importlib.import_module("mobileair.signals").Signals.best).parameters["without"]
         self.assertEqual((without.kind, without.default), (inspect.Parameter.KEYWORD_ONLY, None))
+
+    def test_attributes_and_defaults(self):
+        book = importlib.import_module("mobileair.book").Book
+        home = importlib.import_module("mobileair.home").Home
+        self.assertIsInstance(importlib.import_module("mobileair.switch").Switch(home()).book, book)
+        tick = importlib.import_module("mobileair.network").Network.tick
+        self.assertEqual(inspect.signature(tick).parameters["count"].default, 1)
 
     def test_errors_stand_in_their_file(self):
         module = importlib.import_module("mobileair.errors")
