@@ -89,13 +89,14 @@ class Steps:
         """Let a network link send; the phone takes the block if it keeps to the channel."""
         block = _block(link.terminal.send())
         phone = self._phones[link.phone]
-        if phone.link is None or phone.link.key != link.key:
+        own = phone.link
+        if own is None or own.key != link.key:
             return
         cell, _ = link.place
         arrived = self._air.carry(link.phone, "down", cell, block)
-        if arrived is None or phone.link.place != link.place:
+        if arrived is None or own.place != link.place:
             return
-        phone.link.last = tick
+        own.last = tick
         frame = unpack_frame(arrived)
         if frame is not None:
             phone.take(frame)

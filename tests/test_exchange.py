@@ -5,6 +5,8 @@ import unittest
 from mobileair.exchange import Exchange
 from mobileair.messages import write_message
 from mobileair.reading import read_message
+from mobileair.signals import Signals
+from mobileair.store import Store
 from tests.helpers import ProgramTest
 from tests.networks import digits_of, number_of
 
@@ -63,6 +65,11 @@ class KnownTest(ExchangeTest):
         exchange.act(link, ("service", "call", digits_of(0)), 5)
         self.assertEqual([link.person, self.told(link)], [0, [("service accept",)]])
 
+    def test_digits_of_somebody_in_another_message(self):
+        exchange = office()
+        link = self.link(exchange, 0, ("setup", digits_of(0)))
+        self.assertEqual([link.person, link.released, self.told(link)], [None, False, []])
+
     def test_digits_of_nobody(self):
         for message in (("area update", 1, "999999"), ("service", "call", "999999"), ("service", "texts", "999999"),
                         ("page answer", "999999")):
@@ -94,6 +101,12 @@ class KnownTest(ExchangeTest):
         exchange = office()
         link = self.link(exchange, 1, ("page answer", digits_of(1)))
         self.assertEqual([link.person, link.released, self.told(link)], [1, True, [("release",)]])
+
+    def test_a_page_answer_without_a_page_delivers_nothing(self):
+        exchange = office()
+        exchange.store.put(1, "777", PART)
+        link = self.link(exchange, 1, ("page answer", digits_of(1)))
+        self.assertEqual([link.released, self.told(link), exchange.store.many(1)], [True, [("release",)], 1])
 
     def test_a_page_answer_for_a_call(self):
         exchange = office()
@@ -196,6 +209,14 @@ class CallTest(ExchangeTest):
             self.assertEqual([self.told(caller), self.told(called)], [at_caller, at_called], message)
         self.assertEqual(exchange.switch.book.lines(), [(0, 1, 9, 9, 31)])
 
+    def test_a_side_without_a_link_is_told_nothing(self):
+        exchange = office()
+        exchange.switch.start(0, number_of(1), [0], 5)
+        exchange.pages.ask(1, "call")
+        called = self.link(exchange, 1, ("page answer", digits_of(1)), ("alerting",), ("disconnect", 16))
+        self.assertEqual([exchange.switch.calls(), called.released], [[], True])
+        self.assertEqual(self.told(called), [("setup", number_of(0)), ("release",)])
+
     def test_a_disconnect_of_a_person_without_a_call(self):
         exchange = office()
         link = self.texts_link(exchange, 0, ("disconnect", 16))
@@ -246,6 +267,48 @@ class CallTest(ExchangeTest):
         link.tell(("alerting",))
         link.release()
         self.assertEqual([link.terminal.idle, link.released], [True, True])
+
+
+class HandoverTest(ExchangeTest):
+    def active(self):
+        """A call of persons 0 and 1, and signals by which another cell is better for phone 0."""
+        exchange = office()
+        caller = self.call_link(exchange, 0, ("setup", number_of(1)))
+        self.link(exchange, 1, ("page answer", digits_of(1)), ("connect",))
+        exchange.act(caller, ("connect done",), 5)
+        self.told(caller)
+        signals = Signals(2, 2)
+        signals.set_level(0, 1, 10)
+        return exchange, caller, signals
+
+    def test_three_ticks_in_a_row(self):
+        exchange, caller, signals = self.active()
+        for tick, second in ((6, None), (7, None), (8, (1, 0)), (9, (1, 0))):
+            exchange.hand_over(signals, tick)
+            self.assertEqual(caller.second, second)
+        self.assertEqual([self.told(caller), exchange.pool.held_by(caller.key)],
+                         [[("handover", 1, 0)], [caller.place, (1, 0)]])
+
+    def test_a_released_link(self):
+        exchange, caller, signals = self.active()
+        exchange.hand_over(signals, 6)
+        exchange.hand_over(signals, 7)
+        caller.release()
+        for tick in range(8, 14):
+            exchange.hand_over(signals, tick)
+        self.assertEqual([caller.second, self.told(caller)], [None, [("release",)]])
+
+    def test_a_link_whose_end_has_failed_holds_the_channel_all_the_same(self):
+        exchange, caller, signals = self.active()
+        caller.tell(("word", (1,)))
+        for _ in range(19):
+            caller.terminal.send()
+        self.assertEqual(caller.terminal.state, "failed")
+        for tick in (6, 7, 8):
+            exchange.hand_over(signals, tick)
+        self.assertEqual(caller.second, (1, 0))
+        exchange.finish(caller, True, 8)
+        self.assertEqual(exchange.pool.status(1, 0, 8), "rests")
 
 
 class TextsTest(ExchangeTest):
@@ -369,6 +432,34 @@ class TextsTest(ExchangeTest):
             exchange.finish(caller, is_lost, 7)
             self.assertEqual(exchange.switch.calls(), [] if is_lost else [(0, 1, "looking")])
             self.assertEqual(exchange.pages.reason(1), None if is_lost else "call")
+
+
+class StoreTest(ProgramTest):
+    def test_nothing_is_stored_at_first(self):
+        store = Store()
+        self.assertIsNone(store.drop_first(2))
+        self.assertEqual([store.many(2), store.first(2), store.has_room()], [0, None, True])
+
+    def test_the_parts_of_each_person_stand_in_order(self):
+        store = Store()
+        for person, sender in ((1, "5"), (2, "6"), (1, "7")):
+            store.put(person, sender, PART)
+        self.assertEqual([store.many(person) for person in (0, 1, 2)], [0, 2, 1])
+        self.assertEqual([store.first(1), store.first(2)], [("5", PART), ("6", PART)])
+        store.drop_first(1)
+        self.assertEqual([store.first(1), store.first(2)], [("7", PART), ("6", PART)])
+        store.drop_first(1)
+        store.drop_first(1)
+        self.assertEqual([store.many(1), store.first(1), store.many(2)], [0, None, 1])
+
+    def test_room(self):
+        store = Store()
+        for at in range(40):
+            self.assertTrue(store.has_room())
+            store.put(at % 3, "5", PART)
+        self.assertFalse(store.has_room())
+        store.drop_first(2)
+        self.assertTrue(store.has_room())
 
 
 class BlockTest(ExchangeTest):

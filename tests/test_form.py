@@ -120,6 +120,13 @@ class FormTest(unittest.TestCase):
             for node in nodes(tree, ast.FunctionDef):
                 self.assertLessEqual(node.end_lineno - node.lineno + 1, 40, (name, node.name))
 
+    def test_attributes_are_assigned_through_a_local_name(self):
+        for name, tree in trees():
+            for node in nodes(tree, ast.Attribute):
+                if isinstance(node.ctx, ast.Store):
+                    self.assertIsInstance(node.value, ast.Name, (name, ast.unparse(node)))
+                    self.assertNotIn(node.value.id, top_names(tree) + imported_names(tree), name)
+
     def test_decorators_stand_over_methods_only(self):
         for name, tree in trees():
             methods = [node for kind in nodes(tree, ast.ClassDef) for node in kind.body]
@@ -221,6 +228,8 @@ class FormTest(unittest.TestCase):
         properties = {node.name for node in functions if is_property(node)}
         self.assertEqual(properties & {node.name for node in functions if not node.decorator_list}, set())
         self.assertEqual(properties & METHODS, set())
+        self.assertEqual(properties & {node.attr for kind in classes for node in nodes(kind, ast.Attribute)
+                                       if isinstance(node.ctx, ast.Store)}, set())
         for kind in classes:
             methods = [node.name for node in kind.body if isinstance(node, ast.FunctionDef)
                        and not any(".setter" in ast.unparse(part) for part in node.decorator_list)]

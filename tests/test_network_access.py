@@ -20,7 +20,7 @@ class CampingTest(NetworkTest):
             self.assertEqual(network.camp(0), camp)
 
     def test_from_cell_to_cell(self):
-        # One channel that is held keeps the phone without a link.
+        # All cells are of one area, so the phone wants no link.
         network = settled([[20, 0, 0]], areas=[0, 0, 0])
         steps = [((20, 25, 0), 0), ((20, 26, 0), 1), ((31, 26, 0), 1), ((32, 26, 0), 0), ((9, 5, 0), 0), ((5, 0, 0), 0),
                  ((4, 9, 9), None), ((5, 9, 9), None), ((5, 9, 10), 2), ((63, 9, 57), 0), ((4, 10, 10), 1), ((0, 0, 0), None)]
@@ -93,13 +93,16 @@ class WantsTest(NetworkTest):
         settle(network, 1)
         self.assertEqual([network.call_state(0), network.call_cause(0), network.outbox(0)], ["idle", 1, 0])
 
-    def test_all_in_their_order(self):
+    def test_call_and_texts(self):
         network = occupied()
         network.set_level(1, 0, 0)
         network.tick()
         network.text(1, "99", "a")
+        self.assertEqual(network.wants(1), ["texts"])
         network.dial(1, "99")
         self.assertEqual([network.camp(1), network.wants(1)], [None, ["call", "texts"]])
+
+    def test_page_and_texts(self):
         network = occupied()
         network.text(1, "99", "a")
         network.dial(3, number_of(1))
@@ -114,7 +117,6 @@ class WantsTest(NetworkTest):
         network.dial(3, number_of(1))
         network.text(1, "99", "a")
         self.first_tick(network, lambda: "page" in network.wants(1))
-        self.assertEqual(network.wants(1), ["page", "texts"])
         network.power(2, False)
         network.power(3, False)
         # In the cell of another area it still answers the page first.
@@ -138,14 +140,13 @@ class WantsTest(NetworkTest):
         network.dial(0, "99")
         self.assertEqual(network.wants(0), ["call", "texts"])
         network.set_level(0, 1, 30)
-        network.power(1, False)
         wishes = []
         for _ in range(40):
             network.tick()
-            if network.channel(0) is None and network.wants(0) != wishes[-1:]:
+            if network.channel(0) is None and [network.wants(0)] != wishes[-1:]:
                 wishes.append(network.wants(0))
-        self.assertEqual([row for at, row in enumerate(wishes) if at == 0 or row != wishes[at - 1]],
-                         [["call", "texts"], ["texts"], []])
+        self.assertEqual(wishes, [["call", "texts"], ["texts"], []])
+        self.assertEqual([network.known_area(0), network.call_cause(0), network.outbox(0)], [1, 1, 0])
 
     def test_nothing_with_a_link(self):
         network = settled([[30, 0], [0, 30]])

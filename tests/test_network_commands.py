@@ -426,6 +426,57 @@ class CallCommandsTest(NetworkTest):
         self.assertEqual([network.call_state(1), network.call_cause(1)], ["idle", 16])
 
 
+class StatesTest(NetworkTest):
+    """Each command in each state of a call side."""
+
+    def in_state(self, state):
+        """A network, and a phone of it whose call side is in this state."""
+        network = settled([[30, 0], [0, 30]])
+        phone = 1 if state == "ringing" else 0
+        if state != "idle":
+            network.dial(0, number_of(1))
+        if state in ("looking", "alerting", "ringing", "active", "clearing"):
+            network.tick(5 if state == "looking" else 10)
+        if state in ("active", "clearing"):
+            network.answer(1)
+            network.tick(3)
+        if state == "clearing":
+            network.hang(0)
+        self.assertEqual(network.call_state(phone), state)
+        return network, phone
+
+    def test_each_command_in_each_state(self):
+        states = ["idle", "starting", "looking", "alerting", "ringing", "active", "clearing"]
+        for name, arguments, fits in (
+            ("dial", ("99",), ["idle"]), ("answer", (), ["ringing"]), ("hang", (), states[1:6]), ("say", ((1,),), ["active"]),
+            ("text", ("99", "a"), states), ("set_forward", ("busy", "99"), states), ("power", (False,), states),
+            ("power", (True,), states),
+        ):
+            for state in states:
+                network, phone = self.in_state(state)
+                before = all_answers(network, 2)
+                if state in fits:
+                    getattr(network, name)(phone, *arguments)
+                    if name in ("dial", "hang", "say", "text") or arguments == (False,):
+                        self.assertNotEqual(all_answers(network, 2), before, (name, state))
+                else:
+                    self.assert_raises_what(NotNow, name, getattr(network, name), phone, *arguments)
+                    self.assertEqual(all_answers(network, 2), before, (name, state))
+
+    def test_all_is_at_rest_some_time_behind_each_command(self):
+        for name, arguments in (("hang", ()), ("power", (False,)), ("text", ("99", "a")), ("say", ((1,),)), ("answer", ())):
+            for state in ("starting", "looking", "alerting", "ringing", "active"):
+                network, phone = self.in_state(state)
+                try:
+                    getattr(network, name)(phone, *arguments)
+                except NotNow:
+                    continue
+                network.tick(60)
+                talks = [("active", "say"), ("active", "text"), ("ringing", "answer")]
+                self.assertEqual(len(network.calls()), 1 if (state, name) in talks else 0)
+                self.assertEqual(len(network.links()), 2 if (state, name) in talks else 0)
+
+
 class TextTest(NetworkTest):
     def test_how_many_parts(self):
         network = settled([[30]])

@@ -131,6 +131,23 @@ class CountTest(NetworkTest):
         self.assertEqual([network.channel(0), network.channel_state(1, 0)], [(0, 0), "free"])
 
 
+    def test_a_count_without_a_free_channel_is_0_behind_the_release(self):
+        network = settled(LEVELS + [[0, 30, 0, 0], [0, 0, 0, 20]], [6, 1, 6, 6], [0, 0, 0, 0])
+        talk(network, 0, 1)
+        talk(network, 2, 3)
+        network.set_level(0, 1, 30)
+        network.tick(6)
+        network.hang(2)
+        self.first_tick(network, lambda: network.channel_state(1, 0) == "rests")
+        network.tick(6)
+        # Both are told the release, and phone 0 does not take it while the channel becomes free.
+        network.hang(1)
+        network.lose(0, "down", 7)
+        network.tick(6)
+        self.assertEqual([network.channel(0), seconds(network), network.channel_state(1, 0)],
+                         [(0, 0), ((0, 0), None), "free"])
+
+
 class MoveTest(NetworkTest):
     def test_the_ticks_of_a_handover(self):
         network = talking(LEVELS)

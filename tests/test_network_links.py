@@ -2,7 +2,9 @@
 
 import random
 import unittest
+from unittest import mock
 
+from mobileair.bursts import code_block
 from tests.networks import NetworkTest, all_answers, built, number_of, settle, settled, talk, talking
 
 TWO = [[30, 0], [0, 30]]
@@ -61,15 +63,15 @@ class ClearAirTest(NetworkTest):
         for word in ((1,), (2,), (3,)):
             network.say(0, word)
         network.say(1, (9,) * 40)
-        heard = [(((1,),), ()), (((1,), (2,)), ((9,) * 40,)), (((1,), (2,), (3,)), ((9,) * 40,))]
         found = []
-        for _ in range(3):
+        for _ in range(7):
             network.tick()
-            found.append((network.words_heard(1), network.words_heard(0)))
-        # A word of one piece is heard in its tick; one of 42 octets has three pieces, one for each tick.
-        self.assertEqual(found[0], (heard[0][0], ()))
-        network.tick(6)
-        self.assertEqual((network.words_heard(1), network.words_heard(0)), heard[2])
+            found.append((len(network.words_heard(1)), len(network.words_heard(0))))
+        # A word of one piece is heard in its tick, and the next one is sent when the answer has come. A word of 42
+        # octets has three pieces up and then three pieces down.
+        self.assertEqual(found, [(1, 0), (2, 0), (3, 0), (3, 0), (3, 1), (3, 1), (3, 1)])
+        self.assertEqual(network.words_heard(1), ((1,), (2,), (3,)))
+        self.assertEqual(network.words_heard(0), ((9,) * 40,))
 
     def test_phones_are_visited_in_ascending_order(self):
         network = settled([[30, 0, 0], [0, 30, 0], [0, 0, 30]], areas=[0, 0, 0])
@@ -354,6 +356,25 @@ class HarmTest(NetworkTest):
             network.tick()
             rows.append(network.known_area(0))
         self.assertEqual(rows, [None] * 6 + [0, 0])
+
+    def test_blocks_of_an_earlier_network_link_do_not_count(self):
+        network = talking(TWO)
+        network.power(0, False)
+        network.power(0, True)
+        network.lose(0, "up", 8)
+        network.lose(0, "down", 8)
+        self.assert_ticks(network, lambda: ([link[0] for link in network.links()], network.channel(0)),
+                          *[([0, 1, 0], (0, 1))] * 7, ([0, 1, 0], None))
+
+    def test_flipped_blocks_are_coded(self):
+        network = talking(TWO)
+        with mock.patch("mobileair.air.code_block", wraps=code_block) as coded:
+            network.tick(3)
+            self.assertEqual(coded.call_count, 0)
+            network.harm(0, "up", [1, 2, 300])
+            network.harm(1, "down", [])
+            network.tick(3)
+            self.assertEqual(coded.call_count, 1)
 
     def test_blocks_below_the_level_use_up_the_losses(self):
         network = talking(TWO)
