@@ -50,9 +50,10 @@ class Switch:
         call = self._called_in(person, ("looking",))
         if call is None:
             return []
+        number = self._home.number(call.caller)
         call.stage = "offered"
         call.offered = tick
-        return [("tell", person, ("setup", self._home.number(call.caller)))]
+        return [("tell", person, ("setup", number))]
 
     def alerting(self, person):
         """The phone of a person rings."""
